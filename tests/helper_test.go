@@ -1,6 +1,46 @@
 package tests
 
-import "loop.example/g00693/impl"
+import (
+	"slices"
+	"testing"
+
+	"loop.example/g00693/impl"
+)
+
+// spareRoom is more than any chapter's function has to put behind a list.
+const spareRoom = 5000
+
+// copyWithRoom copies a list that has some room to spare, filled with a mark,
+// so that whatever is put there shows.
+func copyWithRoom[T any](list []T, mark T) []T {
+	room := make([]T, len(list)+spareRoom)
+	for i := copy(room, list); i < len(room); i++ {
+		room[i] = mark
+	}
+	return room[:len(list)]
+}
+
+// checkWithRoom looks at such a copy and at the room behind it.
+func checkWithRoom[T comparable](t *testing.T, what string, list []T, want []T, mark T) {
+	t.Helper()
+	if !slices.Equal(list, want) {
+		t.Errorf("%s: the argument changed", what)
+	}
+	for _, one := range list[len(list):cap(list)] {
+		if one != mark {
+			t.Errorf("%s: something was put behind the argument", what)
+			return
+		}
+	}
+}
+
+// scribbleOver writes into all of an answer, and into all the room behind it.
+func scribbleOver[T any](list []T, mark T) {
+	list = list[:cap(list)]
+	for i := range list {
+		list[i] = mark
+	}
+}
 
 // textsOf tells every text of at most so many of the bytes of an alphabet.
 func textsOf(alphabet string, most int) []string {

@@ -31,26 +31,11 @@ func wrongSizes() []int {
 	return all
 }
 
-// withRoom copies bytes into a list that has some room to spare.
-func withRoom(b []byte) []byte {
-	room := make([]byte, len(b)+5000)
-	for i := copy(room, b); i < len(room); i++ {
-		room[i] = spareMark
-	}
-	return room[:len(b)]
-}
+func withRoom(b []byte) []byte { return copyWithRoom(b, spareMark) }
 
 func checkUntouched(t *testing.T, what string, b []byte, want []byte) {
 	t.Helper()
-	if !bytes.Equal(b, want) {
-		t.Errorf("%s: bytes of the argument changed", what)
-	}
-	for _, one := range b[len(b):cap(b)] {
-		if one != spareMark {
-			t.Errorf("%s: something was put behind the argument", what)
-			return
-		}
-	}
+	checkWithRoom(t, what, b, want, spareMark)
 }
 
 // mixedRam tells a memory of that size, with room to spare and no two pages alike.
